@@ -55,6 +55,6 @@ func halfOfSum(root, a Nat) Nat {
 // powerOfTwo returns 2^n.
 func powerOfTwo(n int) Nat {
 	d := make([]uint64, n/digitBits+1)
-	d[n/digitBits] = 1 << (n % digitBits)
+	d[n/digitBits] = uint64(1) << (n % digitBits)
 	return pack(d)
 }

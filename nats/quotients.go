@@ -41,7 +41,8 @@ func divide(x, y []uint64) (quotient, rest []uint64) {
 	// Doubled until its highest digit is at least 2^63, y lets its two highest digits tell a quotient digit
 	// to within 1; the quotient stays the same if x is doubled as often.
 	shift := bits.LeadingZeros64(y[len(y)-1])
-	rest, by := shiftLeft(x, shift), trim(shiftLeft(y, shift))
+	rest = shiftLeft(x, shift)
+	by := trim(shiftLeft(y, shift))
 	quotient = make([]uint64, len(x)-len(y)+1)
 	for i := range quotient {
 		at := len(quotient) - 1 - i
